@@ -1,0 +1,1 @@
+"""A reader of marks, words, numbers and texts by its states."""
