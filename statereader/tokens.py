@@ -1,13 +1,21 @@
-"""A reader that is handed bytes by its state, and the answers to a list of calls on one reader."""
+"""A reader that is handed bytes by its state and gives tokens, and the answers to a list of calls on one reader."""
 
 from statereader.states import ADD, END, FINISH, HIGH_DIGIT, LOW_DIGIT, OVER, START, WRONG, steps_of
 
 HAND = 1
 RUN = 2
 WHERE = 3
+KIND = 4
+TAKE = 5
+FAULT = 6
 
 REFUSED = -1
+MOST_OUT_OF_RANGE = -2
+NONE_WAITS = -1
+MOST_TOO_SMALL = -3
+NO_KIND = 0
 NO_PLACE = -1
+PLACES = 2147483648
 HIGHEST_BYTE = 255
 MOST_BYTES = 255
 MOST_WAITING = 64
@@ -49,6 +57,29 @@ class Reader:
     def where(self):
         return self.state
 
+    def kind(self):
+        if len(self.waiting) == 0:
+            return NO_KIND
+        return self.waiting[0][0]
+
+    def take(self, most):
+        # Asked ahead of the tokens, because such a most is refused with -2 where none waits too.
+        if most < 0 or most > MOST_BYTES:
+            return [MOST_OUT_OF_RANGE]
+        if len(self.waiting) == 0:
+            return [NONE_WAITS]
+        content = self.waiting[0][1]
+        if most < len(content):
+            return [MOST_TOO_SMALL]
+        self.waiting.pop(0)
+        return [len(content)] + content
+
+    def fault(self):
+        # The rest of -1 would be a place.
+        if self.fault_place == NO_PLACE:
+            return NO_PLACE
+        return self.fault_place % PLACES
+
     def do_step(self, step):
         self.state = step.state
         if step.deed == ADD:
@@ -84,7 +115,9 @@ def call_length(calls, at):
         return 3
     if call == RUN:
         return 2 + calls[at + 1]
-    if call == WHERE:
+    if call == TAKE:
+        return 2
+    if call == WHERE or call == KIND or call == FAULT:
         return 1
     raise UnknownCall(f"no call has the number {call}")
 
@@ -94,7 +127,13 @@ def answer_call(reader, call):
         return [reader.hand(call[1], call[2])]
     if call[0] == RUN:
         return [reader.run(call[2:])]
-    return [reader.where()]
+    if call[0] == WHERE:
+        return [reader.where()]
+    if call[0] == KIND:
+        return [reader.kind()]
+    if call[0] == TAKE:
+        return reader.take(call[1])
+    return [reader.fault()]
 
 
 def answers(calls):

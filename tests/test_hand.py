@@ -3,48 +3,9 @@
 import unittest
 
 from lines import (
-    COMMENT, E, END, ESCAPE, EXPONENT, FRACTION, HEX, LOW, MINUS, OVER, POINT, SIGN, START, TEXT, WAY, WHOLE, WORD,
-    ZERO, ask, hand, way, where,
+    COMMENT, END, ESCAPE, EXPONENT, FRACTION, HEX, LOW, MINUS, OVER, START, TEXT, WAY, WHOLE, WORD, ZERO, ask, hand,
+    told, way, where,
 )
-
-LETTERS = b"ABCDEFGHIJKLMNOPQRSTUVWXYZabcdefghijklmnopqrstuvwxyz_"
-DIGITS = b"0123456789"
-HEXES = b"0123456789abcdefABCDEF"
-
-FROM_START = {
-    b" \t\n\r": START, LETTERS: WORD, b"-": MINUS, b"0": ZERO, b"123456789": WHOLE, b'"': TEXT, b"#": COMMENT,
-    b"{}[]:,=": START,
-}
-
-# The first group that a byte is in counts. FINISHES stands for what start does with it.
-FINISHES = "finishes"
-TOLD = {
-    START: (FROM_START, OVER),
-    WORD: ({LETTERS + DIGITS: WORD}, FINISHES),
-    MINUS: ({b"0": ZERO, b"123456789": WHOLE}, OVER),
-    ZERO: ({b".": POINT, b"eE": E, DIGITS + LETTERS: OVER}, FINISHES),
-    WHOLE: ({DIGITS: WHOLE, b".": POINT, b"eE": E, LETTERS: OVER}, FINISHES),
-    POINT: ({DIGITS: FRACTION}, OVER),
-    FRACTION: ({DIGITS: FRACTION, b"eE": E, LETTERS: OVER}, FINISHES),
-    E: ({b"+-": SIGN, DIGITS: EXPONENT}, OVER),
-    SIGN: ({DIGITS: EXPONENT}, OVER),
-    EXPONENT: ({DIGITS: EXPONENT, LETTERS: OVER}, FINISHES),
-    TEXT: ({b'"': START, b"\\": ESCAPE, bytes(range(32)): OVER}, TEXT),
-    ESCAPE: ({b'nt\\"': TEXT, b"x": HEX}, OVER),
-    HEX: ({HEXES: LOW}, OVER),
-    LOW: ({HEXES: TEXT}, OVER),
-    COMMENT: ({b"\n": START}, COMMENT),
-}
-
-
-def told(state, c):
-    if c == END:
-        return OVER
-    groups, rest = TOLD[state]
-    for group, after in groups.items():
-        if c in group:
-            return after
-    return told(START, c) if rest == FINISHES else rest
 
 
 class EveryByteInEveryState(unittest.TestCase):

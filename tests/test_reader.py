@@ -1,4 +1,4 @@
-"""What the reader keeps while it is handed bytes: the tokens that wait, and the place of what was wrong."""
+"""What the reader keeps, as far as no list of calls can show it."""
 
 import unittest
 
@@ -13,48 +13,12 @@ def read(cs):
 
 
 def kept(reader):
-    return (reader.state, reader.handed, list(reader.current), list(reader.waiting), reader.fault_place)
+    return (reader.state, reader.handed, list(reader.current), reader.high, list(reader.waiting), reader.fault_place)
 
 
-def tokens(text):
-    return [(kind, bytes(content)) for kind, content in read(text).waiting]
-
-
-class Tokens(unittest.TestCase):
+class Kept(unittest.TestCase):
     def test_at_the_beginning(self):
-        self.assertEqual(kept(Reader()), (START, 0, [], [], -1))
-
-    def test_each_kind(self):
-        self.assertEqual(tokens(b"ab_9 "), [(1, b"ab_9")])
-        self.assertEqual(tokens(b"0 -0 17 -205 "), [(2, b"0"), (2, b"-0"), (2, b"17"), (2, b"-205")])
-        self.assertEqual(tokens(b"0.50 1e5 -2.5E+07 0e-0 "), [(3, b"0.50"), (3, b"1e5"), (3, b"-2.5E+07"), (3, b"0e-0")])
-        self.assertEqual(tokens(b'"a b" ""'), [(4, b"a b"), (4, b"")])
-        self.assertEqual(tokens(b"{}[]:,="), [(5, bytes([c])) for c in b"{}[]:,="])
-
-    def test_escapes(self):
-        self.assertEqual(tokens(b'"\\n\\t\\\\\\"\\x4f\\xF0\\xfa\\x00"'), [(4, b'\n\t\\"\x4f\xf0\xfa\x00')])
-
-    def test_every_byte_by_its_two_digits(self):
-        for c in range(256):
-            with self.subTest(c=c):
-                self.assertEqual(tokens(b'"\\x%02x\\x%02X"' % (c, c)), [(4, bytes([c, c]))])
-
-    def test_bytes_above_127_in_a_text(self):
-        self.assertEqual(tokens(b'"\x7f\x80\xff"'), [(4, b"\x7f\x80\xff")])
-
-    def test_what_stands_behind_a_token_without_a_blank(self):
-        self.assertEqual(
-            tokens(b'a=1-2"t"w#c\n{0.5}'),
-            [(1, b"a"), (5, b"="), (2, b"1"), (2, b"-2"), (4, b"t"), (1, b"w"), (5, b"{"), (3, b"0.5"), (5, b"}")],
-        )
-
-    def test_the_end_finishes(self):
-        self.assertEqual(tokens([*b"a", END]), [(1, b"a")])
-        self.assertEqual(tokens([*b"1e5", END]), [(3, b"1e5")])
-
-    def test_255_bytes(self):
-        self.assertEqual(tokens(b"w" * 255 + b" "), [(1, b"w" * 255)])
-        self.assertEqual(tokens(b"w" * 256 + b" "), [])
+        self.assertEqual(kept(Reader()), (START, 0, [], 0, [], -1))
 
     def test_a_refusal_changes_nothing(self):
         for text, state, c in (
@@ -67,26 +31,32 @@ class Tokens(unittest.TestCase):
                 self.assertEqual(reader.hand(state, c), -1)
                 self.assertEqual(kept(reader), before)
 
-
-class Wrong(unittest.TestCase):
-    def test_its_place(self):
-        for text, place in (
-            (b"!", 0), (b"ab !", 3), (b"ab!", 2), (b"-a", 1), (b"01", 1), (b"1.e", 2), (b'"\n', 1), (b'"\\q', 2),
-            (b'"\\xg', 3), (b'"\\x4g', 4), (b"w" * 256, 255), ([*b'"a', END], 2), ([*b"-", END], 1),
-        ):
+    def test_a_refused_take_and_asking_change_nothing(self):
+        for text in (b"", b"ab", b"ab cd", b'"a" "\\x4', b"ab!", [*b"ab", END]):
             with self.subTest(text=text):
                 reader = read(text)
-                self.assertEqual((reader.state, reader.fault_place), (OVER, place))
+                before = kept(reader)
+                self.assertEqual([reader.take(-1), reader.take(256)], [[-2], [-2]])
+                self.assertIn(reader.take(0), ([-1], [-3]))
+                reader.kind()
+                reader.fault()
+                reader.where()
+                self.assertEqual(kept(reader), before)
 
-    def test_the_end_by_itself_is_not_wrong(self):
-        for text in (b"", b"a", b"0", b"12", b"0.5", b"1e5", b"#", b'""', b"="):
-            with self.subTest(text=text):
-                reader = read([*text, END])
-                self.assertEqual((reader.state, reader.fault_place), (OVER, -1))
 
-    def test_finished_tokens_stay(self):
-        self.assertEqual(tokens(b"a=b!"), [(1, b"a"), (5, b"="), (1, b"b")])
-        self.assertEqual(tokens(b"a 1x"), [(1, b"a")])
+class Place(unittest.TestCase):
+    def test_its_rest_by_2147483648(self):
+        # A list of calls is too short for so many bytes, so the count is set here.
+        for handed, place in (
+            (2147483646, 2147483646), (2147483647, 2147483647), (2147483648, 0), (2147483653, 5),
+            (4294967295, 2147483647), (4294967296, 0),
+        ):
+            with self.subTest(handed=handed):
+                reader = Reader()
+                reader.handed = handed
+                self.assertEqual(reader.fault(), -1)
+                reader.hand(START, ord("!"))
+                self.assertEqual(reader.fault(), place)
 
 
 if __name__ == "__main__":
